@@ -2,63 +2,9 @@
 
 import unittest
 
-from asking import HIGHEST, ask, between, drop, line, wide
-
-PAIRS = [(a, b) for a in range(8) for b in range(8) if a != b]
-
-
-def joined(lines):
-    """What goes straight from each place to each other, as rows."""
-    straight = [[0] * 8 for _ in range(8)]
-    for a, b, most in lines:
-        straight[a][b] += most
-        straight[b][a] += most
-    return straight
-
-
-def flow(lines, a, b):
-    """How much goes from a to b, sent way by way, with no thought of sides."""
-    left = joined(lines)
-    sent = 0
-    while True:
-        came_from = {a: a}
-        waiting = [a]
-        for here in waiting:
-            for there in range(8):
-                if left[here][there] > 0 and there not in came_from:
-                    came_from[there] = here
-                    waiting.append(there)
-        if b not in came_from:
-            return sent
-        way = [b]
-        while way[-1] != a:
-            way.append(came_from[way[-1]])
-        way.reverse()
-        steps = list(zip(way, way[1:]))
-        much = min(left[here][there] for here, there in steps)
-        for here, there in steps:
-            left[here][there] -= much
-            left[there][here] += much
-        sent += much
-
-
-def edge(straight, members):
-    return sum(straight[a][b] for a in members for b in range(8) if b not in members)
-
-
-def members_of(side):
-    return {place for place in range(8) if side // 2 ** place % 2 == 1}
-
-
-def made_up(seed, count, places, most):
-    """So many lines between the first places; the same for the same seed."""
-    lines = []
-    while len(lines) < count:
-        seed = (seed * 1103515245 + 12345) % 2 ** 31
-        a, b, much = seed // 64 % places, seed // 4096 % places, seed // 65536 % (most + 1)
-        if a != b:
-            lines.append((a, b, much))
-    return lines
+from asking import (
+    HIGHEST, PAIRS, ask, ask_of, between, crossing, drop, flow, line, members_of, nets, number_of, wide,
+)
 
 
 class Refused(unittest.TestCase):
@@ -122,25 +68,20 @@ class Between(unittest.TestCase):
 
 
 class WhatHolds(unittest.TestCase):
-    def nets(self):
-        for seed in range(40):
-            yield made_up(seed, seed % 25, 3 + seed % 6, (2, 7, 1000)[seed % 3])
-
     def told_of_all(self, lines):
-        told = ask(*[line(*one) for one in lines], *[between(a, b) for a, b in PAIRS])
-        return dict(zip(PAIRS, told[len(lines):]))
+        return dict(zip(PAIRS, ask_of(lines, *[between(a, b) for a, b in PAIRS])))
 
     def test_just_so_much_does_go(self):
-        for lines in self.nets():
+        for lines in nets():
             told = self.told_of_all(lines)
             for a, b in PAIRS:
+                sent, reached = flow(lines, a, b)
                 with self.subTest(lines=lines, a=a, b=b):
-                    self.assertEqual(told[a, b][0], flow(lines, a, b))
+                    self.assertEqual(told[a, b], [sent, number_of(reached)])
 
     def test_the_cut_is_the_least_number_of_the_least_edge(self):
-        for lines in self.nets():
-            straight = joined(lines)
-            edges = {side: edge(straight, members_of(side)) for side in range(256)}
+        for lines in nets():
+            edges = {side: crossing(lines, members_of(side)) for side in range(256)}
             told = self.told_of_all(lines)
             for a, b in PAIRS:
                 parting = [side for side in edges if a in members_of(side) and b not in members_of(side)]
@@ -149,7 +90,7 @@ class WhatHolds(unittest.TestCase):
                     self.assertEqual(told[a, b], list(best))
 
     def test_either_way_as_much_and_no_less_than_by_a_third(self):
-        for lines in self.nets():
+        for lines in nets():
             told = self.told_of_all(lines)
             for a, b in PAIRS:
                 self.assertEqual(told[a, b][0], told[b, a][0])

@@ -8,8 +8,17 @@ from contextlib import redirect_stderr, redirect_stdout
 from asking import HIGHEST
 from treeofcuts import desk
 
-CALLS = [0, 1, 0, 1, 5, 1, 1, 2, 3, 4, 0, 2, 2, 7, 3, 0, 1001, 2, 0, 0, 1, 7, 6, 1000, 4, 6, 7, 4, 0, 8]
-TOLD = [1, 0, 1, 0, 1, 1, 2, 3, 3, 1, -2, 1, -22, 1, 0, 1, 0, 1, 0, 2, 1000, 64, 1, -22]
+# All nine calls, each of those that can be refused once answered and once refused.
+CALLS = [
+    0, 1, 0, 1, 5, 1, 1, 2, 3, 1, 8, 0, 1, 4, 0, 2, 5, 6, 2, 0, 7, 3, 8, 3, 1, 9, 2, 0, 2, 7, 5, 3, 0, 1001,
+    0, 1, 7, 6, 1000, 8, 4, 6, 7, 6, 6, 7, 7, 64, 4, 0, 8, 6, 3, 3, 7, 256, 5,
+]
+TOLD = [
+    1, 0, 1, 0, 1, 1, 1, -22, 2, 3, 3, 17, 0, 0, 0, 1, 0, 0, 0, 0, 0, 0, 5, 3, 0, 0, 0, 0, 0, 1, 3, 1, 3, 2, 0, 7,
+    1, 0, 1, 0, 1, -2, 17, 0, 0, 0, 1, 0, 0, 0, 0, 0, 0, 0, 9, 0, 0, 0, 0, 0, 1, -22,
+    1, 0, 1, 0, 2, 0, 1, 2, 1000, 64, 1, 1000, 1, 1000, 1, -22, 1, -22, 1, -22,
+    17, 0, 0, 0, 0, 0, 0, 0, 0, 6, 0, 0, 0, 0, 0, 0, 0, 1000,
+]
 
 
 class Answers(unittest.TestCase):
@@ -23,16 +32,23 @@ class Answers(unittest.TestCase):
         self.assertEqual(desk.answers([0, 2, 4]), [1, 0, 1, -2])
         self.assertEqual(desk.answers([0, 3, 4, 5]), [1, 0, 1, -2])
         self.assertEqual(desk.answers([0, 4, 5, 6]), [1, 0, 2, 0, 32])
+        self.assertEqual(desk.answers([0, 5]), [1, 0, 17] + [0] * 17)
+        self.assertEqual(desk.answers([0, 6, 5, 6]), [1, 0, 1, 0])
+        self.assertEqual(desk.answers([0, 7, 5]), [1, 0, 1, 0])
+        self.assertEqual(desk.answers([0, 8]), [1, 0, 2, 0, 1])
 
     def test_several_calls_in_one_list(self):
         self.assertEqual(desk.answers(list(CALLS)), TOLD)
 
     def test_a_refusal_is_one_number(self):
         self.assertEqual(desk.answers([0, 4, 0, 0, 4, 0, 1]), [1, 0, 1, -22, 2, 0, 1])
+        self.assertEqual(desk.answers([0, 6, 0, 0, 7, 256, 6, 0, 1]), [1, 0, 1, -22, 1, -22, 1, 0])
 
     def test_the_highest_numbers(self):
         calls = [0, 1, HIGHEST, HIGHEST, HIGHEST, 2, HIGHEST, 3, HIGHEST, HIGHEST, 3, HIGHEST, 0, 4, HIGHEST, HIGHEST]
         self.assertEqual(desk.answers(calls), [1, 0, 1, -22, 1, -2, 1, -22, 1, -2, 1, -22])
+        calls = [0, 6, HIGHEST, HIGHEST, 6, HIGHEST, 7, 6, 0, HIGHEST, 7, HIGHEST]
+        self.assertEqual(desk.answers(calls), [1, 0, 1, -22, 1, -22, 1, -22, 1, -22])
 
     # Lists this long are not shown when they differ: telling how they do would take minutes.
     def test_1000_calls_in_one_list(self):

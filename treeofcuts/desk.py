@@ -7,9 +7,12 @@ TR_LINE = 1
 TR_DROP = 2
 TR_WIDE = 3
 TR_BETWEEN = 4
+TR_TREE = 5
+TR_TOLD = 6
+TR_EDGE = 7
 
 # How many whole numbers stand behind each call's own, by that.
-GIVEN_COUNTS = (0, 3, 1, 2, 2)
+GIVEN_COUNTS = (0, 3, 1, 2, 2, 0, 2, 1, 0)
 
 
 def answer_of(network, number, given):
@@ -22,7 +25,16 @@ def answer_of(network, number, given):
         return network.drop_line(given[0])
     if number == TR_WIDE:
         return network.widen_line(given[0], given[1])
-    return network.between(given[0], given[1])
+    if number == TR_BETWEEN:
+        return network.between(given[0], given[1])
+    if number == TR_TREE:
+        return network.whole_tree()
+    if number == TR_TOLD:
+        return network.told_between(given[0], given[1])
+    if number == TR_EDGE:
+        return network.edge(given[0])
+    # Only tr_weakest, 8, is left: nothing that isn't a call is handed in.
+    return network.weakest()
 
 
 def answers(calls):

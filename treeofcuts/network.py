@@ -3,7 +3,8 @@
 Each call's method gives back a list: the number that is answered, and behind it what else is.
 """
 
-from treeofcuts.sides import PLACES, cut_of, edge_of
+from treeofcuts.sides import PLACES, SIDES, cut_of, edge_of, weakest_side
+from treeofcuts.tree import Tree
 
 MOST_LINES = 24
 MOST_THROUGH = 1000
@@ -76,3 +77,25 @@ class Network:
             return refused(WRONG_VALUE)
         cut = cut_of(self.lines, a, b)
         return [edge_of(self.lines, cut), cut]
+
+    def whole_tree(self):
+        """tr_tree: of each place below which it hangs, then of each its weight."""
+        tree = Tree(self.lines)
+        return [0] + tree.above + tree.weights
+
+    def told_between(self, a, b):
+        """tr_told: what the tree tells of two places."""
+        if wrong_pair(a, b):
+            return refused(WRONG_VALUE)
+        return [Tree(self.lines).least_step(a, b)]
+
+    def edge(self, side):
+        """tr_edge: the edge of the side."""
+        if side >= SIDES:
+            return refused(WRONG_VALUE)
+        return [edge_of(self.lines, side)]
+
+    def weakest(self):
+        """tr_weakest: the least edge of all, and the side that has it."""
+        side = weakest_side(self.lines)
+        return [edge_of(self.lines, side), side]
